@@ -8,6 +8,8 @@ import (
 	"loop.example/g00729/impl"
 )
 
+const least, greatest = -1 << 63, 1<<63 - 1
+
 // testArena has a different word at every place, the bounds among them, so that a word in a wrong place shows.
 func testArena(frames int) []int64 {
 	words := make([]int64, frames*impl.PageWords)
@@ -75,7 +77,6 @@ func checkCode(t *testing.T, name string, got impl.IntsResult, code int64) {
 // noFrames are numbers that are no frame of an arena of so many; the great ones wrap around to a
 // frame where they are multiplied or added to ahead of the comparison.
 func noFrames(frames int64) []int64 {
-	const least, greatest = -1 << 63, 1<<63 - 1
 	return []int64{-1, frames, frames + 1, -frames, greatest, least, least + 1, greatest - 15, 1 << 60, 1<<60 + 1, -1 << 60, 1 << 59, 1 << 32}
 }
 
