@@ -117,6 +117,11 @@ func frameAt(words []int64, frame int64) frameCopy {
 
 func withFrame(words []int64, frame int64, page frameCopy) []int64 {
 	list := slices.Clone(words)
-	copy(list[frame*PageWords:], page[:])
+	layFrame(list, frame, page)
 	return list
+}
+
+// layFrame changes the list, which is to be the caller's own.
+func layFrame(list []int64, frame int64, page frameCopy) {
+	copy(list[frame*PageWords:], page[:])
 }
